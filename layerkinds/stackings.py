@@ -1,6 +1,8 @@
 """The calls on one object, and what is answered to them."""
 
-from layerkinds.words import all_words, closes, first_name, is_own, is_word
+from layerkinds.words import (
+    all_words, closes, count_leaving_ways, count_like_neighbours, first_name, is_handed, is_own, is_word, names_of, way,
+)
 
 START = 0
 WORDS = 1
@@ -11,8 +13,16 @@ ALL_KINDS = 5
 KTH = 6
 KTH_ALL = 7
 WHICH = 8
+SIDES = 9
+LEAVING = 10
+HANDED = 11
+FIXED = 12
+SUM = 13
+NEXT = 14
+NAMES = 15
+UPS = 16
+STATE = 17
 
-# All calls of the document stand here, those not written yet too: ahead of a start each is passed and answered.
 CALLS_WITH_NUMBER = (0, 6, 7, 9, 10, 12, 15, 16)
 CALLS_WITH_WORD = (8, 14)
 
@@ -54,12 +64,66 @@ class Stackings:
             return [NOT_FOUND]
         return [self.kinds.index(first_name(word))]
 
+    def next_closing(self, word):
+        if not is_word(word, self.steps):
+            return [NOT_LET]
+        return told_word([other for other in self.closing if other > word], 0, NOT_FOUND)
+
+    def names(self, k):
+        if k >= len(self.kinds):
+            return [NO_SUCH_KIND]
+        return [len(names_of(self.kinds[k]))]
+
+    def sides(self, h):
+        return [len([kind for kind in self.kinds if count_like_neighbours(kind) == h])]
+
+    def leaving(self, m):
+        return [len([kind for kind in self.kinds if count_leaving_ways(kind) == m])]
+
+    def handed(self):
+        return [len([kind for kind in self.kinds if is_handed(kind)])]
+
+    def fixed(self, t):
+        if t >= 4 * self.steps:
+            return [NOT_LET]
+        return [len([word for word in self.closing if way(word, t) == word])]
+
+    def fixed_together(self):
+        return [sum([count_leaving_ways(word) for word in self.closing])]
+
+    def ups(self, u):
+        return [len([word for word in self.closing if word.count(1) == u])]
+
     def call(self, number, given):
         """The answer to one call: a refusal alone, or all the numbers that are answered."""
         if number == START:
             return self.start(given[0])
         if self.steps == 0:
             return [NOT_STARTED]
+        if number == WHICH:
+            return self.which(given)
+        if number == NEXT:
+            return self.next_closing(given)
+        if number in CALLS_WITH_NUMBER:
+            return self.call_with_number(number, given[0])
+        return self.call_alone(number)
+
+    def call_with_number(self, number, given):
+        if number == KTH:
+            return told_word(self.kinds, given, NO_SUCH_KIND)
+        if number == KTH_ALL:
+            return told_word(self.all_kinds, given, NO_SUCH_KIND)
+        if number == SIDES:
+            return self.sides(given)
+        if number == LEAVING:
+            return self.leaving(given)
+        if number == FIXED:
+            return self.fixed(given)
+        if number == NAMES:
+            return self.names(given)
+        return self.ups(given)
+
+    def call_alone(self, number):
         if number == WORDS:
             return [len(self.words)]
         if number == CLOSING:
@@ -70,19 +134,17 @@ class Stackings:
             return [len(self.kinds)]
         if number == ALL_KINDS:
             return [len(self.all_kinds)]
-        if number == KTH:
-            return kth_of(self.kinds, given[0])
-        if number == KTH_ALL:
-            return kth_of(self.all_kinds, given[0])
-        if number == WHICH:
-            return self.which(given)
-        raise NotImplementedError(f"call {number}")
+        if number == HANDED:
+            return self.handed()
+        if number == SUM:
+            return self.fixed_together()
+        return [self.steps]
 
 
-def kth_of(words, k):
-    """How many steps the k-th of the words has, then these steps."""
+def told_word(words, k, refusal):
+    """How many steps the k-th of the words has, then these steps; the refusal, if there aren't so many."""
     if k >= len(words):
-        return [NO_SUCH_KIND]
+        return [refusal]
     return [len(words[k])] + words[k]
 
 

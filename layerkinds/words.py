@@ -66,6 +66,32 @@ def way(word, t):
     return held
 
 
+def all_ways(word):
+    """What each way makes of the word, way by way."""
+    return [way(word, t) for t in range(4 * len(word))]
+
+
 def first_name(word):
     """The first, in order, of all that ways make of the word."""
-    return min([way(word, t) for t in range(4 * len(word))])
+    return min(all_ways(word))
+
+
+def names_of(word):
+    """All that ways make of the word, each once, in order."""
+    return sorted(set([tuple(held) for held in all_ways(word)]))
+
+
+def count_leaving_ways(word):
+    """How many ways leave the word, which is to make the same of it."""
+    return all_ways(word).count(word)
+
+
+def is_handed(word):
+    """Whether no way that reads the word backwards makes it itself."""
+    return word not in all_ways(word)[2 * len(word):]
+
+
+def count_like_neighbours(word):
+    """How many layers have like neighbours: a step that is unlike the one before it."""
+    # Before the first step there's the last, which the index -1 is.
+    return len([k for k in range(len(word)) if word[k] != word[k - 1]])

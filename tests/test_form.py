@@ -262,6 +262,17 @@ class Values(EachFile):
                         self.assertIs(parent.iter, node)
         self.each(check)
 
+    def test_sets_are_not_kept_and_not_walked(self):
+        def check(file):
+            self.assertEqual(nodes(file, ast.Set), [])
+            above = parents(file)
+            for node in nodes(file, ast.Call):
+                if isinstance(node.func, ast.Name) and node.func.id in ("set", "frozenset"):
+                    self.assertIsInstance(above[node], ast.Call)
+                    self.assertIn(above[node].func.id, ("sorted", "len"))
+                    self.assertEqual(above[node].keywords, [])
+        self.each(check)
+
 
 if __name__ == "__main__":
     unittest.main()

@@ -3,7 +3,8 @@
 import unittest
 
 from layerkinds.words import (
-    all_words, backwards, begun_later, closes, first_name, is_own, is_word, opposite, position_behind, positions, way,
+    all_words, all_ways, backwards, begun_later, closes, count_leaving_ways, count_like_neighbours, first_name,
+    is_handed, is_own, is_word, names_of, opposite, position_behind, positions, way,
 )
 from tests import reference
 
@@ -33,12 +34,50 @@ class Ways(unittest.TestCase):
                 self.assertEqual(sorted(made), reference.names(word))
                 self.assertEqual(first_name(steps(word)), steps(reference.names(word)[0]))
 
+    def test_each_way_of_each_word(self):
+        for n in range(1, 9):
+            for word in reference.words(n):
+                made = [steps(reference.way(word, t)) for t in range(4 * n)]
+                self.assertEqual(all_ways(steps(word)), made)
+
+    def test_names_each_once_in_order(self):
+        for n in range(1, 9):
+            for word in reference.words(n):
+                told = [list(name) for name in names_of(steps(word))]
+                self.assertEqual(told, [steps(name) for name in reference.names(word)])
+
+    def test_ways_that_leave(self):
+        for n in range(1, 9):
+            for word in reference.words(n):
+                self.assertEqual(count_leaving_ways(steps(word)), len(reference.ways_leaving(word)))
+
+    def test_handed(self):
+        # No kind of up to eight layers is handed, so words that don't close tell whether one is.
+        self.assertTrue(is_handed(steps("0001011")))
+        self.assertTrue(is_handed(steps("0001101")))
+        self.assertTrue(is_handed(steps("00001011")))
+        self.assertTrue(is_handed(steps("000100111011")))  # later and opposite makes it itself, backwards nothing does
+        self.assertFalse(is_handed(steps("0001001")))  # backwards makes it itself
+        self.assertFalse(is_handed(steps("001011")))  # backwards and opposite makes it itself
+        self.assertFalse(is_handed(steps("0011")))  # both do
+        for n in range(1, 9):
+            for word in reference.words(n):
+                self.assertEqual(is_handed(steps(word)), reference.handed(word))
+
 
 class Layers(unittest.TestCase):
     def test_positions(self):
         self.assertEqual(positions(steps("111")), [0, 1, 2])
         self.assertEqual(positions(steps("0001")), [0, 2, 1, 0])
         self.assertEqual(position_behind([]), 0)
+
+    def test_like_neighbours(self):
+        # The last step is the one before the first.
+        self.assertEqual([count_like_neighbours(steps(word)) for word in ("0", "11", "01", "0011", "0110", "0101")],
+                         [0, 0, 2, 2, 2, 4])
+        for n in range(1, 9):
+            for word in reference.words(n):
+                self.assertEqual(count_like_neighbours(steps(word)), reference.sides(word))
 
     def test_every_word(self):
         for n in range(1, 9):
